@@ -1,0 +1,1 @@
+"""Root systems, Weyl groups and characters, exactly."""
