@@ -86,6 +86,14 @@ class Form(unittest.TestCase):
                     self.assertTrue(node.module.startswith("weylweights."))
                     self.assertLessEqual(names, self.defined_in(node.module))
 
+    def test_imports_and_private_functions_are_used(self):
+        for path in self.for_all_files():
+            tree = tree_of(path)
+            told = {alias.name for node in ast.walk(tree) if isinstance(node, ast.ImportFrom) for alias in node.names}
+            told |= {node.name for node in ast.walk(tree) if isinstance(node, ast.FunctionDef)
+                     and node.name.startswith("_") and not node.name.startswith("__")}
+            self.assertLessEqual(told, {node.id for node in ast.walk(tree) if isinstance(node, ast.Name)})
+
     def defined_in(self, module):
         tree = tree_of(PACKAGE / (module.split(".", 1)[1].replace(".", "/") + ".py"))
         found = {node.name for node in tree.body if isinstance(node, (ast.FunctionDef, ast.ClassDef))}

@@ -59,14 +59,14 @@ def _part_around(matrix, node):
     return tuple(sorted(part))
 
 
-def _block(rows, nodes):
+def block_of(rows, nodes):
     """The rows and columns of these nodes alone."""
     return [[rows[i][j] for j in nodes] for i in nodes]
 
 
 def _blocks(matrix):
     """The pairs of a part and of its block."""
-    return [(part, _block(matrix, part)) for part in parts_of(matrix)]
+    return [(part, block_of(matrix, part)) for part in parts_of(matrix)]
 
 
 def kinds_of(matrix):
@@ -112,12 +112,12 @@ def _shown_by_block(block):
     kind = _kind(block)
     if kind == FINITE:
         # the adjugate leads this to the determinant in all rows
-        rows = [_cofactors(block, row) for row in range(len(block))]
+        rows = [cofactors(block, row) for row in range(len(block))]
         return [sum(column) for column in zip(*rows)]
     if kind == AFFINE:
-        return _cofactors(block, len(block) - 1)
+        return cofactors(block, len(block) - 1)
     many = _sound_rows(block) + 1
-    start = _cofactors(_leading(block, many), many - 1) + [0] * (len(block) - many)
+    start = cofactors(_leading(block, many), many - 1) + [0] * (len(block) - many)
     return _spread_below(block, _without_divisor(start))
 
 
@@ -223,7 +223,7 @@ def _eliminated(pivot_row, row, k, ahead):
     return [(pivot_row[k] * number - row[k] * other) // ahead for number, other in zip(row, pivot_row)]
 
 
-def _cofactors(rows, i):
+def cofactors(rows, i):
     """The cofactors at the places of row i: these rows lead them to the determinant in row i and to 0 elsewhere."""
     others = [row for at, row in enumerate(rows) if at != i]
     cofactors = []

@@ -1,9 +1,9 @@
-"""What counts as a whole number, a row of them, a node or a word, and the errors for what does not.
+"""What counts as a whole number, a row of them, a node, some nodes or a word, and the errors for what does not.
 
 Everything here looks at kinds before it compares, since any value whatever may be passed.
 """
 
-from weylweights.errors import InvalidNode, InvalidVector, InvalidWeight, InvalidWord
+from weylweights.errors import InvalidCount, InvalidNode, InvalidNodes, InvalidVector, InvalidWeight, InvalidWord
 
 LONGEST_WORD = 300
 
@@ -25,6 +25,17 @@ def is_node(value, many):
     return is_whole(value) and 0 <= value < many
 
 
+def is_nodes(value, many):
+    """Whether the value is an ascending tuple of one or more nodes of a matrix of so many rows."""
+    if not isinstance(value, tuple) or len(value) == 0:
+        return False
+    return all([is_node(node, many) for node in value]) and is_ascending(value)
+
+
+def is_ascending(values):
+    return all([value < behind for value, behind in zip(values, values[1:])])
+
+
 def is_word(value, many):
     """Whether the value is a word of nodes of a matrix of so many rows."""
     if not isinstance(value, tuple) or len(value) > LONGEST_WORD:
@@ -42,9 +53,25 @@ def check_weight(matrix, weight):
         raise InvalidWeight(weight)
 
 
+def check_dominant(matrix, weight):
+    check_weight(matrix, weight)
+    if min(weight) < 0:
+        raise InvalidWeight(weight)
+
+
 def check_node(matrix, node):
     if not is_node(node, len(matrix)):
         raise InvalidNode(node)
+
+
+def check_nodes(matrix, nodes):
+    if not is_nodes(nodes, len(matrix)):
+        raise InvalidNodes(nodes)
+
+
+def check_count(count, least, most):
+    if not is_whole(count) or not least <= count <= most:
+        raise InvalidCount(count)
 
 
 def check_word(matrix, word):

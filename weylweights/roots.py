@@ -110,11 +110,20 @@ def coroot_of(matrix, root):
     """The coroot, by its coordinates at the simple coroots."""
     check_finite(matrix)
     check_root(matrix, root)
-    symmetrizer = symmetrizer_of(matrix)
+    return _coroot(matrix, symmetrizer_of(matrix), root)
+
+
+def _coroot(matrix, symmetrizer, root):
     # the same numbers give (b, b) and the doubled coordinates
     scaled = [number * other for number, other in zip(root, symmetrizer)]
     square = sum([number * value for number, value in zip(scaled, image_of(matrix, root))])
     return tuple([2 * number // square for number in scaled])
+
+
+def positive_coroots(matrix):
+    """The coroots of the positive roots, in the order of these."""
+    symmetrizer = symmetrizer_of(matrix)
+    return [_coroot(matrix, symmetrizer, root) for root in positive_roots(matrix)]
 
 
 def value_at(matrix, root, other):
@@ -139,12 +148,12 @@ def string_of(matrix, root, other):
 def _steps_along(matrix, step, start):
     """How often the step can be added until no root comes."""
     many = 0
-    place = _sum_of(start, step)
+    place = vector_sum(start, step)
     while _comes_from_simple(matrix, place):
         many += 1
-        place = _sum_of(place, step)
+        place = vector_sum(place, step)
     return many
 
 
-def _sum_of(vector, other):
+def vector_sum(vector, other):
     return tuple([number + more for number, more in zip(vector, other)])

@@ -42,13 +42,13 @@ def _least_word_to(matrix, weight):
     """The least word of the element that leads rho to the weight."""
     word = []
     while min(weight) < 0:
-        node = _first_below_0(weight)
+        node = first_below_0(weight)
         word.append(node)
         weight = weight_reflection(matrix, node, weight)
     return tuple(word)
 
 
-def _first_below_0(weight):
+def first_below_0(weight):
     return min([node for node in range(len(weight)) if weight[node] < 0])
 
 
