@@ -3,7 +3,7 @@ from fractions import Fraction
 from itertools import permutations, product
 from math import gcd
 
-from tests import matrices, small
+from tests import matrices, refusals, small
 from tests.matrices import HUGE
 from tests.small import A_ONE, A_PAIR, A_TWO, B_TWO, FOUR_ONES, G_TWO
 from weylweights.errors import TooMany
@@ -204,6 +204,12 @@ class IsPath(unittest.TestCase):
                 before = path[at - 1]
                 yield (*path[:at - 1], (before[0], length), (weight, before[1]), *path[at + 1:])
                 yield (*path[:at - 1], path[at], before, *path[at + 1:])
+
+    def test_whatever_it_is(self):
+        for value in refusals.NO_PATHS:
+            with self.subTest(value=value):
+                self.assertIs(is_path(B_TWO, value), False)
+                self.assertIs(is_path(value=value, matrix=B_TWO), False)
 
     def test_lengths_in_lowest_terms(self):
         good = (((-2,), HALF), ((2,), HALF))

@@ -1,6 +1,6 @@
 import unittest
 
-from tests import matrices, small
+from tests import matrices, refusals, small
 from tests.matrices import HUGE
 from tests.small import A_ONE, A_PAIR, A_TWO, B_TWO, FOUR_ONES, G_TWO
 from weylweights.characters import dimension, table_of
@@ -62,7 +62,7 @@ class Examples(unittest.TestCase):
 
 class Kinds(unittest.TestCase):
     def test_what_is_no_table_is_no_sum(self):
-        for value in NO_TABLES:
+        for value in (*NO_TABLES, *refusals.NO_TABLES):
             with self.subTest(value=value):
                 self.assertIs(is_table(A_TWO, value), False)
                 self.assertIs(is_sum(A_TWO, value), False)
