@@ -25,7 +25,9 @@ BUILTINS = set("""len range enumerate zip min max sum abs sorted reversed int st
     NotImplemented True False None iter next super map""".split())
 METHODS = set("""append clear copy count endswith extend find get index insert isalnum isalpha isdigit islower isspace
     isupper items join keys ljust lower lstrip partition pop remove replace reverse rfind rjust rpartition rsplit
-    rstrip setdefault split splitlines startswith strip update upper values zfill bit_length add discard sort""".split())
+    rstrip setdefault split splitlines startswith strip update upper values zfill bit_length add discard sort title
+    capitalize swapcase casefold center expandtabs removeprefix removesuffix rindex isascii isdecimal isnumeric istitle
+    isidentifier isprintable""".split())
 BARRED_WORDS = set("""type typing typing_extensions enum Enum IntEnum StrEnum Flag IntFlag Generic Protocol ABC ABCMeta
     namedtuple NamedTuple TypedDict TYPE_CHECKING abstractmethod""".split())
 BARRED_NAMES = set("""register mro elements open input law version_info with_traceback add_note attrgetter breakpoint
@@ -150,6 +152,7 @@ class Form(unittest.TestCase):
             own |= {node.id for node in ast.walk(tree) if isinstance(node, ast.Name)
                     and isinstance(node.ctx, ast.Store)}
             own |= {node.arg for node in ast.walk(tree) if isinstance(node, ast.arg)}
+            own |= {node.name for node in ast.walk(tree) if isinstance(node, ast.ExceptHandler) and node.name}
             for node in nodes_of(path, ast.Name):
                 self.assertTrue(node.id in own or node.id in BUILTINS, node.id)
             self.assertFalse(own & set(dir(builtins)))

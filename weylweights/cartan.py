@@ -32,9 +32,14 @@ def check_matrix(matrix):
         raise InvalidMatrix(matrix)
 
 
+def is_finite(matrix):
+    """Whether all parts of the Cartan matrix are finite."""
+    return all([kind == FINITE for kind in kinds_of(matrix)])
+
+
 def check_finite(matrix):
     check_matrix(matrix)
-    if not all([kind == FINITE for kind in kinds_of(matrix)]):
+    if not is_finite(matrix):
         raise NotFinite()
 
 

@@ -22,6 +22,10 @@ def restricted(matrix, nodes, total):
     check_small(matrix)
     check_nodes(matrix, nodes)
     check_sum(matrix, total)
+    return restricted_sum(matrix, nodes, total)
+
+
+def restricted_sum(matrix, nodes, total):
     counts = {}
     for weight, count in counts_of_sum(matrix, total).items():
         place = weight_at(nodes, weight)

@@ -15,11 +15,11 @@ MOST_PRODUCT = 100000
 def is_table(matrix, value):
     """Whether the value is a table, of any size."""
     check_small(matrix)
-    return _is_table(matrix, value)
+    return is_table_of_rank(value, len(matrix))
 
 
-def _is_table(matrix, value):
-    if not isinstance(value, tuple) or not all([_is_entry(entry, len(matrix)) for entry in value]):
+def is_table_of_rank(value, rank):
+    if not isinstance(value, tuple) or not all([_is_entry(entry, rank) for entry in value]):
         return False
     return is_ascending([weight for weight, _ in value])
 
@@ -34,11 +34,11 @@ def _is_entry(value, many):
 def is_sum(matrix, value):
     """Whether the value is a sum, of any size."""
     check_small(matrix)
-    return _is_sum(matrix, value)
+    return is_sum_of_rank(value, len(matrix))
 
 
-def _is_sum(matrix, value):
-    return _is_table(matrix, value) and all([min(weight) >= 0 for weight, _ in value])
+def is_sum_of_rank(value, rank):
+    return is_table_of_rank(value, rank) and all([min(weight) >= 0 for weight, _ in value])
 
 
 def size_of_table(table):
@@ -46,18 +46,22 @@ def size_of_table(table):
 
 
 def size_of_sum(matrix, total):
-    coroots = positive_coroots(matrix)
+    return size_by(positive_coroots(matrix), total)
+
+
+def size_by(coroots, total):
+    """The size of the sum, by the positive coroots."""
     return sum([abs(coefficient) * dimension_by(coroots, weight) for weight, coefficient in total])
 
 
 def check_table(matrix, table):
-    if not _is_table(matrix, table):
+    if not is_table_of_rank(table, len(matrix)):
         raise InvalidTable(table)
     _check_size(size_of_table(table))
 
 
 def check_sum(matrix, total):
-    if not _is_sum(matrix, total):
+    if not is_sum_of_rank(total, len(matrix)):
         raise InvalidSum(total)
     _check_size(size_of_sum(matrix, total))
 
@@ -88,6 +92,16 @@ def _first_unlike(matrix, table):
 
 def _neighbours(matrix, weight):
     return [weight_reflection(matrix, node, weight) for node in range(len(matrix))]
+
+
+def unlike_at(matrix, table):
+    """A weight of the table and a node by whose reflection it comes to another count; None."""
+    counts = counts_of_pairs(table)
+    for weight, count in table:
+        for node, image in enumerate(_neighbours(matrix, weight)):
+            if counts.get(image, 0) != count:
+                return weight, node
+    return None
 
 
 def counts_of_pairs(pairs):

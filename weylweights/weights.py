@@ -2,7 +2,7 @@
 
 from math import gcd
 
-from weylweights.cartan import check_finite, cofactors, determinant_of, image_of
+from weylweights.cartan import check_finite, cofactors, determinant_of, image_of, is_finite, is_matrix
 from weylweights.checks import check_dominant, check_weight, is_row
 from weylweights.errors import TooMany
 from weylweights.roots import positive_coroots, positive_roots, vector_sum
@@ -10,6 +10,11 @@ from weylweights.weyl import first_below_0, weight_reflection
 
 MOST_ROWS = 4
 MOST_DIMENSION = 1000
+
+
+def is_small(value):
+    """Whether the value is a finite matrix of up to 4 rows."""
+    return is_matrix(value) and len(value) <= MOST_ROWS and is_finite(value)
 
 
 def check_small(matrix):
