@@ -1,4 +1,4 @@
-"""Wrong arguments of the functions on weights, sums, tables and paths, and the errors that they have to raise."""
+"""Wrong arguments of the functions from weights on, and the errors that they have to raise."""
 
 from inspect import signature
 from itertools import combinations
@@ -13,13 +13,15 @@ for _ in range(27):
     DEEP = (DEEP,)
 ANY = (None, True, False, -HUGE, "", "A2", b"\x00", [], {}, {1}, frozenset(), object(), int, len, ..., 1j, DEEP)
 NINE = matrices.from_edges(9, matrices.chain(9))
+GREAT = (HUGE + 1) * (2 * HUGE + 3) * (HUGE + 2) // 6
 
 NO_MATRICES = (
     *ANY, 0, 7, (), NINE, [[2]], ([2],), [(2,)], ((True,),), ((2, 0),), ((2, -1), (0, 2)), ((2, 1), (1, 2)),
     ((2, -1), (-1, 2), (0, 0)), ((2, -1), [-1, 2]), ((2, "-1"), (-1, 2)), ((2, False), (False, 2)),
 )
 NO_WEIGHTS = (
-    *ANY, 0, 7, (), (1,), (1, 1, 1), [1, 1], (1, True), (False, 1), ("1", 1), (1, None), ((1, 1),), (1, [1]), ((1,), (1,)),
+    *ANY, 0, 7, (), (1,), (1, 1, 1), [1, 1], (1, True), (False, 1), ("1", 1), (1, None), ((1, 1),), (1, [1]),
+    ((1,), (1,)),
 )
 NOT_DOMINANT = ((-1, 0), (0, -1), (-HUGE, HUGE), (5000, -1), (-1, -1))
 NO_TABLES = (
@@ -38,13 +40,30 @@ NO_PATHS = (
     [((1, 0), ONE)], ((1, 0), ONE), (((1, 0), 1),), (((1, 0), "1"),), (((1, 0), None),), (((1, 0), [1, 1]),),
     (((1, 0), (1,)),), (((1, 0), (1, 1, 1)),), (((1, 0), (True, 1)),), (((1, 0), (1, True)),), (((1, 0), (None, 1)),),
     (((1, 0), (2, 2)),), (((1, 0), (-1, -1)),), (((1, 0), (0, 1)),), (((1, 0), (1, 0)),), (((1, 0), HALF),),
-    (((1, 0), (2, 1)),), (((1, 0), (3, 2)),), (([1, 0], ONE),), (((1,), ONE),), (((1, 0, 0), ONE),), (((True, 0), ONE),),
-    (((1, None), ONE),), (("10", ONE),), (((1, 0), HALF), ((1, 0), HALF)), (((1, 0), HALF), ((0, 1), HALF)),
+    (((1, 0), (2, 1)),), (((1, 0), (3, 2)),), (([1, 0], ONE),), (((1,), ONE),), (((1, 0, 0), ONE),),
+    (((True, 0), ONE),), (((1, None), ONE),), (("10", ONE),), (((1, 0), HALF), ((1, 0), HALF)),
+    (((1, 0), HALF), ((0, 1), HALF)),
     (((1, 0), HALF), ((-1, 2), HALF)), (((1, 0), ONE), ((-1, 2), (0, 1))), (((1, -2), HALF), None),
     (((-1, 2), HALF), ((1, -2), HALF)), (((1, -2), (2, 4)), ((-1, 2), HALF)), (((1, -2), (1, 3)), ((-1, 2), (2, 3))),
     (((1, -2), HALF), ((-1, 2), (1, 3)), ((1, -2), (1, 6))), (((1, -2), (3, 2)), ((-1, 2), (-1, 2))),
     (((40, 40), ONE),), (((HUGE, -HUGE), ONE),), (((0, 99), ONE),),
 )
+THREE = ("irreducible", (1, 0))
+NO_EXPRESSIONS = (
+    *ANY, 0, 7, (), ("x",), ["trivial"], "trivial", ("trivial", 1), ("irreducible", (1,)), ("irreducible", (1, -1)),
+    ("irreducible", [1, 0]), ("irreducible", (True, 0)), ("sum", THREE), ("less", THREE, 0), ("product", 0, THREE),
+    ("times", 101, THREE), ("times", -1, THREE), ("times", True, THREE), ("times", THREE, 2), ("dual", "trivial"),
+    ("symmetric square", THREE, THREE), ("exterior square",), ("named", "a"), ("dual", ("named", "a")), (None,), ({},),
+    # too deep, and no EXPRESSION, though too great, too
+    ("dual", ("dual", ("dual", ("dual", ("dual", ("dual", ("trivial",))))))), ("times", 101, ("irreducible", (99, 99))),
+)
+NO_BOOKS = (
+    *ANY, 0, 7, (), ((B_TWO, ()), ()), [(B_TWO, ()), (), ()], ((B_TWO, ()), [], ()), ((B_TWO, ()), (), None),
+    ((B_TWO, (("a", None),)), (), ()), ((B_TWO, (("A", ()),)), (), ()), ((matrices.SNOW, ()), (), ()),
+    ((small.five_rows()[0], ()), (), ()), ((B_TWO, (("a", (((0, 0), 1001),)),)), (), ()),
+    ((B_TWO, ()), ((B_TWO,),), ()), ((B_TWO, ()), (), ((B_TWO, ()),) * 21), (((1,), ()), (), ()),
+)
+STATE = (B_TWO, (("a", (((0, 1), 2),)),))
 WRONG = {
     "matrix": (
         *[(value, errors.InvalidMatrix, value) for value in NO_MATRICES],
@@ -57,7 +76,7 @@ WRONG = {
     "highest": (
         *[(value, errors.InvalidWeight, value) for value in (*NO_WEIGHTS, *NOT_DOMINANT)],
         ((9, 9), errors.TooMany, 10 * 10 * 30 * 20 // 6), ((0, 17), errors.TooMany, 18 * 20 * 19 // 6),
-        ((HUGE, 0), errors.TooMany, (HUGE + 1) * (2 * HUGE + 3) * (HUGE + 2) // 6),
+        ((HUGE, 0), errors.TooMany, GREAT),
     ),
     "total": (
         *[(value, errors.InvalidSum, value) for value in NO_SUMS],
@@ -71,21 +90,44 @@ WRONG = {
     ),
     "node": [(value, errors.InvalidNode, value) for value in (*ANY, -1, 2, 3, HUGE, "0", (0,), [0])],
     "nodes": [(value, errors.InvalidNodes, value) for value in (
-        *ANY, 0, 7, (), [0], (2,), (-1,), (0, 2), (1, 0), (0, 0), (1, 1), (True,), (False, 1), (0, True), ("0",), (None,),
-        ((0,),), (0, [1]), "01", {0: 1}, (HUGE,), (0, 1, 2), (0, 1, 1))],
+        *ANY, 0, 7, (), [0], (2,), (-1,), (0, 2), (1, 0), (0, 0), (1, 1), (True,), (False, 1), (0, True), ("0",),
+        (None,), ((0,),), (0, [1]), "01", {0: 1}, (HUGE,), (0, 1, 2), (0, 1, 1))],
     "path": [(value, errors.InvalidPath, value) for value in NO_PATHS],
     "adams": [(value, errors.InvalidCount, value) for value in (*ANY, 0, -1, 21, HUGE, "1", (1,), [1])],
     "power": [(value, errors.InvalidCount, value) for value in (*ANY, -1, 7, HUGE, "1", (1,), [1])],
     "word": [(value, errors.InvalidWord, value) for value in (
-        *[value for value in ANY], 0, 7, (0,) * 301, [0, 1], (2,), (0, -1), (0, True), (False,), ("0",), (None,), ((0,),),
-        (0, HUGE), (0, [1]), "01", {0: 1})],
+        *[value for value in ANY], 0, 7, (0,) * 301, [0, 1], (2,), (0, -1), (0, True), (False,), ("0",), (None,),
+        ((0,),), (0, HUGE), (0, [1]), "01", {0: 1})],
     "value": (),
+    "any matrix": [(value, errors.InvalidMatrix, value) for value in NO_MATRICES],
+    "form": [(value, errors.InvalidExpression, value) for value in NO_EXPRESSIONS],
+    "expression": (
+        *[(value, errors.InvalidExpression, value) for value in NO_EXPRESSIONS],
+        (("irreducible", (9, 9)), errors.TooMany, 10000),
+        (("times", 0, ("irreducible", (9, 9))), errors.TooMany, 10000),
+        (("less", ("irreducible", (0, 13)), ("times", 45, ("adjoint",))), errors.TooMany, 14 * 15 * 16 // 6 + 450),
+        (("symmetric square", ("irreducible", (HUGE, 0))), errors.TooMany, GREAT * (GREAT + 1) // 2),
+    ),
+    "text": [(value, errors.BadText, None) for value in (
+        *[value for value in ANY if not isinstance(value, str)], 0, 7, (), b"trivial", ("trivial",), ["trivial"])],
+    "book": [(value, errors.InvalidBook, value) for value in NO_BOOKS],
+    "deed": [(value, errors.InvalidDeed, value) for value in (
+        *ANY, 0, 7, (), ("forget", "b"), ["forget", "a"], ("forget", ["a"]), ("forget",), ("restrict", (2,)),
+        ("restrict", ()), ("restrict", [0]), ("define", "b", ("named", "b")), ("define", "b", None),
+        ("define", "let", ("trivial",)), ("define", "b", ("irreducible", (9, 9))), ("undo",))],
+    "lines": [(value, errors.InvalidLines, None) for value in (
+        *ANY[:-1], 0, 7, ["show"], ("show",) * 201, (None,) * 201, "show")] + [(DEEP, errors.InvalidLines, 0)],
 }
 RIGHT = {
     "matrix": B_TWO, "weight": (2, -3), "dominant": (30, 40), "highest": (1, 1), "total": (((0, 0), -3), ((0, 1), 2)),
     "table": (((0, 0), 5),), "node": 1, "nodes": (1,), "path": (((1, -2), (1, 2)), ((-1, 2), (1, 2))), "adams": 3,
-    "power": 2, "word": (0, 1, 1), "value": None,
+    "power": 2, "word": (0, 1, 1), "value": None, "any matrix": matrices.SNOW, "form": ("irreducible", (9, 9)),
+    "expression": ("sum", THREE, ("times", 2, ("adjoint",))), "text": "trivial", "list": "let a = trivial;",
+    "picture": '<svg xmlns="http://www.w3.org/2000/svg" viewBox="-300 -300 600 600">\n</svg>',
+    "book": (STATE, (STATE, (B_TWO, ())), ((B_TWO, ()), STATE)), "deed": ("define", "b", ("named", "a")),
+    "lines": ("show",),
 }
+WRONG["list"] = WRONG["picture"] = WRONG["text"]
 
 
 class Refusals:
@@ -98,10 +140,12 @@ class Refusals:
             with self.assertRaises(error) as caught:
                 call()
             self.assertIs(type(caught.exception), error)
-            if error is errors.TooMany:
-                self.assertEqual(caught.exception.given, given)
-            elif error is not errors.NotFinite:
-                self.assertIs(caught.exception.given, given)
+            # no error has more than one attribute, some have none
+            for told in vars(caught.exception).values():
+                if error is errors.TooMany:
+                    self.assertEqual(told, given)
+                else:
+                    self.assertIs(told, given)
 
     def test_parameters_and_places(self):
         for module, function, kinds in self.FUNCTIONS:

@@ -36,17 +36,18 @@ class Examples(unittest.TestCase):
     def test_of_the_document(self):
         book = changed(fresh_book(A_TWO), ("define", "ad", ("product", THREE, BACK)))
         book = changed(book, ("restrict", (0,)))
-        self.assertEqual(
-            [book[0], undone(book)[0] == (A_TWO, (('ad', (((0, 0), 1), ((1, 1), 1))),)), done_again(undone(book)) == book,
-             does_fit(book, ("forget", "x")), does_fit(book, ("define", "x", ("named", "ad"))), is_book(book)],
-            [(((2,),), (('ad', (((0,), 2), ((1,), 2), ((2,), 1))),)), True, True, False, True, True])
+        self.assertEqual([book[0], undone(book)[0] == (A_TWO, (('ad', (((0, 0), 1), ((1, 1), 1))),)),
+                          done_again(undone(book)) == book, does_fit(book, ("forget", "x")),
+                          does_fit(book, ("define", "x", ("named", "ad"))), is_book(book)],
+                         [(((2,),), (('ad', (((0,), 2), ((1,), 2), ((2,), 1))),)), True, True, False, True, True])
 
 
 class Books(unittest.TestCase):
     def test_books(self):
         state = (A_TWO, (("a", ()), ("b1", ONE)))
-        for book in (fresh_book(A_ONE), full(20), (state, (state,) * 20, (state,) * 20), (state, (), ((A_ONE, ()), state)),
-                     with_entries(A_ONE, ("x", (((999,), -1),))), with_entries(A_ONE, ("abcdefghijkl", ())),
+        for book in (fresh_book(A_ONE), full(20), (state, (state,) * 20, (state,) * 20),
+                     (state, (), ((A_ONE, ()), state)), with_entries(A_ONE, ("x", (((999,), -1),))),
+                     with_entries(A_ONE, ("abcdefghijkl", ())),
                      with_entries(B_TWO, ("x", (((0, 0), -500), ((0, 1), 125))))):
             self.assertIs(is_book(book), True)
         for matrix in small.ALL_SMALL:
@@ -55,30 +56,34 @@ class Books(unittest.TestCase):
 
     def test_wrong_ones(self):
         state = (A_TWO, ())
-        wrong_states = [
-            *ANY, 0, (), (A_TWO,), [A_TWO, ()], (A_TWO, (), ()), (A_TWO, []), (A_TWO, None), (A_TWO, {}), (SNOW, ()), (((1,),), ()),
-            (small.five_rows()[0], ()), (small.FIVE_NOT_FINITE, ()), ([[2]], ()), (((True,),), ()), (DEEP, ()), (A_TWO, (1,)),
-            (A_TWO, (("a",),)), (A_TWO, ("a", ONE)), (A_TWO, (["a", ONE],)), (A_TWO, (("a", ONE, ONE),)), (A_TWO, ((b"a", ONE),)),
-            (A_TWO, ((1, ONE),)), (A_TWO, (("", ONE),)), (A_TWO, (("A", ONE),)), (A_TWO, (("1a", ONE),)), (A_TWO, (("a b", ONE),)),
-            (A_TWO, (("abcdefghijklm", ONE),)), (A_TWO, (("let", ONE),)), (A_TWO, (("trivial", ONE),)), (A_TWO, (("adjoint", ONE),)),
-            (A_TWO, (("dual", ONE),)), (A_TWO, (("sym", ONE),)), (A_TWO, (("ext", ONE),)), (A_TWO, (("a_", ONE),)),
-            (A_TWO, (("\u00e4", ONE),)), (A_TWO, (("a\u0661", ONE),)), (A_TWO, (("a\n", ONE),)), (A_TWO, ((("a",), ONE),)),
-            (A_TWO, (("a", None),)), (A_TWO, (("a", (((0,), 1),)),)), (A_TWO, (("a", (((0, 0), 0),)),)), (A_TWO, (("a", [((0, 0), 1)]),)),
-            (A_TWO, (("a", (((0, -1), 1),)),)), (A_TWO, (("a", (((0, 0), True),)),)), (A_TWO, (("a", (((0, 0), 1001),)),)),
-            (A_TWO, (("a", (((0, 0), -1001),)),)), (A_TWO, (("a", (((9, 9), 1), ((9, 10), 1))),)), (A_TWO, (("a", (((HUGE, 0), 1),)),)),
-            (A_TWO, (("b", ONE), ("a", ONE))), (A_TWO, (("a", ONE), ("a", ONE))), (A_TWO, (("a", ()), ("a", ONE))),
-            (A_TWO, tuple((name, ONE) for name in NAMES[:21])), (A_TWO, (("a", ONE), ("b",))), (A_TWO, ([], ("b", ONE))),
-        ]
-        books = [*ANY, 0, 7, (), (state,), (state, ()), (state, (), (), ()), [state, (), ()], (state, [], ()), (state, (), []),
-                 (state, None, ()), (state, (), None), (state, state, ()), (state, (), state), (state, (state,) * 21, ()),
-                 (state, (), (state,) * 21), (state, {}, ()), (state, "", ())]
+        wrong_states = [*ANY, 0, (), (A_TWO,), [A_TWO, ()], (A_TWO, (), ()), (A_TWO, []), (A_TWO, None), (A_TWO, {}),
+                        (SNOW, ()), (((1,),), ()), (small.five_rows()[0], ()), (small.FIVE_NOT_FINITE, ()), ([[2]], ()),
+                        (((True,),), ()), (DEEP, ()), (A_TWO, (1,)), (A_TWO, (("a",),)), (A_TWO, ("a", ONE)),
+                        (A_TWO, (["a", ONE],)), (A_TWO, (("a", ONE, ONE),)), (A_TWO, ((b"a", ONE),)),
+                        (A_TWO, ((1, ONE),)), (A_TWO, (("", ONE),)), (A_TWO, (("A", ONE),)), (A_TWO, (("1a", ONE),)),
+                        (A_TWO, (("a b", ONE),)), (A_TWO, (("abcdefghijklm", ONE),)), (A_TWO, (("let", ONE),)),
+                        (A_TWO, (("trivial", ONE),)), (A_TWO, (("adjoint", ONE),)), (A_TWO, (("dual", ONE),)),
+                        (A_TWO, (("sym", ONE),)), (A_TWO, (("ext", ONE),)), (A_TWO, (("a_", ONE),)),
+                        (A_TWO, (("\u00e4", ONE),)), (A_TWO, (("a\u0661", ONE),)), (A_TWO, (("a\n", ONE),)),
+                        (A_TWO, ((("a",), ONE),)), (A_TWO, (("a", None),)), (A_TWO, (("a", (((0,), 1),)),)),
+                        (A_TWO, (("a", (((0, 0), 0),)),)), (A_TWO, (("a", [((0, 0), 1)]),)),
+                        (A_TWO, (("a", (((0, -1), 1),)),)), (A_TWO, (("a", (((0, 0), True),)),)),
+                        (A_TWO, (("a", (((0, 0), 1001),)),)), (A_TWO, (("a", (((0, 0), -1001),)),)),
+                        (A_TWO, (("a", (((9, 9), 1), ((9, 10), 1))),)), (A_TWO, (("a", (((HUGE, 0), 1),)),)),
+                        (A_TWO, (("b", ONE), ("a", ONE))), (A_TWO, (("a", ONE), ("a", ONE))),
+                        (A_TWO, (("a", ()), ("a", ONE))), (A_TWO, tuple((name, ONE) for name in NAMES[:21])),
+                        (A_TWO, (("a", ONE), ("b",))), (A_TWO, ([], ("b", ONE))),]
+        books = [*ANY, 0, 7, (), (state,), (state, ()), (state, (), (), ()), [state, (), ()], (state, [], ()),
+                 (state, (), []), (state, None, ()), (state, (), None), (state, state, ()), (state, (), state),
+                 (state, (state,) * 21, ()), (state, (), (state,) * 21), (state, {}, ()), (state, "", ())]
         for wrong in wrong_states:
-            books += [(wrong, (), ()), (state, (wrong,), ()), (state, (state, wrong), (state,)), (state, (), (state, wrong))]
+            books += [(wrong, (), ()), (state, (wrong,), ()), (state, (state, wrong), (state,)),
+                      (state, (), (state, wrong))]
         for book in books:
             with self.subTest(book=book):
                 self.assertIs(is_book(book), False)
-                for call in (lambda: does_fit(book, ("forget", "x")), lambda: changed(book, ("forget", "x")), lambda: undone(book),
-                             lambda: done_again(book), lambda: changed(book, None)):
+                for call in (lambda: does_fit(book, ("forget", "x")), lambda: changed(book, ("forget", "x")),
+                             lambda: undone(book), lambda: done_again(book), lambda: changed(book, None)):
                     with self.assertRaises(InvalidBook) as caught:
                         call()
                     self.assertIs(caught.exception.given, book)
@@ -97,31 +102,36 @@ class Deeds(unittest.TestCase):
 
     def test_what_is_no_deed(self):
         book = with_entries(A_TWO, ("a", ONE))
-        for deed in (
-                *ANY, 0, 7, (), ("define",), ("define", "b"), ("define", "b", THREE, 1), ["define", "b", THREE], ("Define", "b", THREE),
-                ("define", "B", THREE), ("define", "", THREE), ("define", 1, THREE), ("define", "let", THREE), ("define", "ext", THREE),
-                ("define", "abcdefghijklm", THREE), ("define", "b c", THREE), ("define", ("b",), THREE), ("define", None, THREE),
-                ("define", ["b"], THREE), ("define", {}, THREE), ("define", "b", None), ("define", "b", "trivial"), ("define", "b", ONE),
-                ("define", "b", ("irreducible", (1,))), ("define", "b", ("x",)), ("define", "b", ("named",)), ("define", "b", ("named", "b")),
-                ("define", "b", ("named", "a", 1)), ("define", "b", ("named", None)), ("define", "b", ("named", ["a"])),
-                ("define", "b", ("named", ("a",))), ("define", "b", ("sum", THREE, ("named", "c"))), ("define", "b", ["named", "a"]),
-                ("forget",), ("forget", "b"), ("forget", "a", "a"), ("forget", None), ("forget", 0), ("forget", ["a"]), ("forget", ""),
-                ("forget", ("a",)), ("forget", {}), ("forget", "A"), ["forget", "a"], ("restrict",), ("restrict", 0), ("restrict", ()),
-                ("restrict", [0]), ("restrict", (2,)), ("restrict", (-1,)), ("restrict", (1, 0)), ("restrict", (0, 0)), ("restrict", "0"),
-                ("restrict", (True,)), ("restrict", (False, 1)), ("restrict", (0,), 1), ("restrict", 0, 1), ("restrict", (0, None)),
-                ("restrict", ((0,),)), ("restrict", None), ("undo",), ("type", "A2"), (None, "a"), (("forget",), "a"), (b"forget", "a")):
+        for deed in (*ANY, 0, 7, (), ("define",), ("define", "b"), ("define", "b", THREE, 1), ["define", "b", THREE],
+                     ("Define", "b", THREE), ("define", "B", THREE), ("define", "", THREE), ("define", 1, THREE),
+                     ("define", "let", THREE), ("define", "ext", THREE), ("define", "abcdefghijklm", THREE),
+                     ("define", "b c", THREE), ("define", ("b",), THREE), ("define", None, THREE),
+                     ("define", ["b"], THREE), ("define", {}, THREE), ("define", "b", None), ("define", "b", "trivial"),
+                     ("define", "b", ONE), ("define", "b", ("irreducible", (1,))), ("define", "b", ("x",)),
+                     ("define", "b", ("named",)), ("define", "b", ("named", "b")), ("define", "b", ("named", "a", 1)),
+                     ("define", "b", ("named", None)), ("define", "b", ("named", ["a"])),
+                     ("define", "b", ("named", ("a",))), ("define", "b", ("sum", THREE, ("named", "c"))),
+                     ("define", "b", ["named", "a"]), ("forget",), ("forget", "b"), ("forget", "a", "a"),
+                     ("forget", None), ("forget", 0), ("forget", ["a"]), ("forget", ""), ("forget", ("a",)),
+                     ("forget", {}), ("forget", "A"), ["forget", "a"], ("restrict",), ("restrict", 0), ("restrict", ()),
+                     ("restrict", [0]), ("restrict", (2,)), ("restrict", (-1,)), ("restrict", (1, 0)),
+                     ("restrict", (0, 0)), ("restrict", "0"), ("restrict", (True,)), ("restrict", (False, 1)),
+                     ("restrict", (0,), 1), ("restrict", 0, 1), ("restrict", (0, None)), ("restrict", ((0,),)),
+                     ("restrict", None), ("undo",), ("type", "A2"), (None, "a"), (("forget",), "a"), (b"forget", "a")):
             self.fits(book, deed, False)
 
     def test_deeds_that_fit(self):
         book = with_entries(A_TWO, ("a", ONE))
-        for deed in (("define", "b", THREE), ("define", "a", THREE), ("define", "abcdefghijk9", ("named", "a")), ("forget", "a"),
-                     ("define", "a", ("sum", ("named", "a"), ("named", "a"))), ("restrict", (0,)), ("restrict", (1,)), ("restrict", (0, 1)),
-                     ("define", "v", trees.nested(6, ("named", "a"))), ("define", "lets", ("times", 0, THREE))):
+        for deed in (("define", "b", THREE), ("define", "a", THREE), ("define", "abcdefghijk9", ("named", "a")),
+                     ("forget", "a"), ("define", "a", ("sum", ("named", "a"), ("named", "a"))), ("restrict", (0,)),
+                     ("restrict", (1,)), ("restrict", (0, 1)), ("define", "v", trees.nested(6, ("named", "a"))),
+                     ("define", "lets", ("times", 0, THREE))):
             self.fits(book, deed, True)
         for tree in trees.some(A_TWO)[::3]:
             self.fits(book, ("define", "b", tree), True)
         for name in ("a", "z9", "abcdefghijkl"):
-            for tree in (("named", name), ("sum", ("named", name), TRIVIAL), ("dual", ("exterior square", ("named", name)))):
+            for tree in (("named", name), ("sum", ("named", name), TRIVIAL),
+                         ("dual", ("exterior square", ("named", name)))):
                 self.fits(with_entries(A_TWO, (name, ONE)), ("define", "q", tree), True)
                 self.fits(with_entries(A_TWO), ("define", "q", tree), False)
 
@@ -132,12 +142,16 @@ class Deeds(unittest.TestCase):
         self.fits(book, ("define", "b", trees.nested(7)), False)
         # big is of the size 510
         for tree, truth in (
-                (("named", "big"), True), (("sum", ("named", "big"), ("named", "big")), False), (("times", 2, ("named", "big")), False),
-                (("times", 0, ("times", 2, ("named", "big"))), False), (("sum", ("named", "big"), ("irreducible", (9, 7))), False),
-                (("sum", ("named", "big"), ("times", 70, ADJOINT)), False), (("sum", ("named", "big"), ("times", 61, ADJOINT)), True),
+                (("named", "big"), True), (("sum", ("named", "big"), ("named", "big")), False),
+                (("times", 2, ("named", "big")), False), (("times", 0, ("times", 2, ("named", "big"))), False),
+                (("sum", ("named", "big"), ("irreducible", (9, 7))), False),
+                (("sum", ("named", "big"), ("times", 70, ADJOINT)), False),
+                (("sum", ("named", "big"), ("times", 61, ADJOINT)), True),
                 (("product", ("named", "big"), ("named", "a")), True), (("product", ("named", "big"), THREE), False),
-                (("symmetric square", ("named", "big")), False), (("times", 100, ("times", 10, ("named", "none"))), True),
-                (("times", 100, ("times", 11, ("named", "none"))), False), (("times", 100, ("times", 10, TRIVIAL)), True)):
+                (("symmetric square", ("named", "big")), False),
+                (("times", 100, ("times", 10, ("named", "none"))), True),
+                (("times", 100, ("times", 11, ("named", "none"))), False),
+                (("times", 100, ("times", 10, TRIVIAL)), True)):
             with self.subTest(tree=tree):
                 self.assertIs(does_fit(book, ("define", "b", tree)), truth)
         # the size of nothing is taken as 1
@@ -145,9 +159,10 @@ class Deeds(unittest.TestCase):
             tree = ("times", 100, ("sum", ("times", number - 1, ("named", "none")), ("named", "none")))
             self.fits(book, ("define", "b", tree), truth)
         book = with_entries(A_ONE, ("none", ()), ("x", (((0,), 500), ((499,), -1))))
-        for tree, truth in ((("named", "x"), True), (("sum", ("named", "x"), ("named", "none")), False), (("product", ("named", "x"), (
-                "named", "none")), True), (("product", ("named", "none"), ("irreducible", (999,))), True), (("product", (
-                    "named", "none"), ("irreducible", (1000,))), False)):
+        for tree, truth in ((("named", "x"), True), (("sum", ("named", "x"), ("named", "none")), False),
+                            (("product", ("named", "x"), ("named", "none")), True),
+                            (("product", ("named", "none"), ("irreducible", (999,))), True),
+                            (("product", ("named", "none"), ("irreducible", (1000,))), False)):
             self.fits(book, ("define", "b", tree), truth)
 
     def test_20_entries_and_21(self):
@@ -177,7 +192,8 @@ class Deeds(unittest.TestCase):
             for tree in trees.over(("named", "x"), ("named", "y")):
                 plain = replaced(tree, {"x": first, "y": second})
                 if size_of(matrix, plain) <= 1000 and trees.depth(plain) <= 6:
-                    self.assertEqual(dict(changed(book, ("define", "z", tree))[0][1])["z"], decomposition(matrix, plain))
+                    self.assertEqual(dict(changed(book, ("define", "z", tree))[0][1])["z"],
+                                     decomposition(matrix, plain))
 
     def test_forget(self):
         book = done(full(3), ("forget", "n01"))
@@ -209,7 +225,8 @@ class Deeds(unittest.TestCase):
                                          done(smaller, ("define", "z", tree))[0])
 
     def test_sizes_stay_below_1000(self):
-        book = done(fresh_book(A_TWO), ("define", "x", ("less", ("times", 10, ("irreducible", (3, 3))), ("times", 35, ADJOINT))))
+        book = done(fresh_book(A_TWO),
+                    ("define", "x", ("less", ("times", 10, ("irreducible", (3, 3))), ("times", 35, ADJOINT))))
         book = changed(book, ("restrict", (0,)))
         self.assertIs(is_book(book), True)
         self.assertLessEqual(sum(abs(number) * dimension(A_ONE, weight) for weight, number in book[0][1][0][1]), 1000)
@@ -218,13 +235,14 @@ class Deeds(unittest.TestCase):
 def replaced(tree, told):
     if tree[0] == "named":
         return told[tree[1]]
-    return tuple(replaced(part, told) if isinstance(part, tuple) and isinstance(part[0], str) else part for part in tree)
+    return tuple(replaced(part,
+                          told) if isinstance(part, tuple) and isinstance(part[0], str) else part for part in tree)
 
 
 class Undoing(unittest.TestCase):
     def test_undone_and_done_again(self):
-        deeds = [("define", "a", THREE), ("define", "b", ("product", ("named", "a"), ADJOINT)), ("forget", "a"), ("restrict", (1,)),
-                 ("restrict", (0,)), ("define", "b", TRIVIAL)]
+        deeds = [("define", "a", THREE), ("define", "b", ("product", ("named", "a"), ADJOINT)), ("forget", "a"),
+                 ("restrict", (1,)), ("restrict", (0,)), ("define", "b", TRIVIAL)]
         books = [fresh_book(A_TWO)]
         for deed in deeds:
             books.append(changed(books[-1], deed))

@@ -86,22 +86,22 @@ class Forms(unittest.TestCase):
 
     def test_wrong_ones(self):
         good = THREE
-        wrong = [
-            *ANY, 0, 7, (), ("x",), ("trivial", 1), ("adjoint", ()), ["trivial"], ("Trivial",), ("trivial ",), (TRIVIAL,),
-            "trivial", (b"trivial",), ("irreducible",), ("irreducible", 1), ("irreducible", ()), ("irreducible", (1,)),
-            ("irreducible", (1, 0, 0)), ("irreducible", [1, 0]), ("irreducible", (True, 0)), ("irreducible", (1, -1)),
-            ("irreducible", (1, None)), ("irreducible", (1, 0), 1), ("irreducible", 1, 0), ("irreducible", "10"),
-            ("sum", good), ("sum", good, good, good), ("sum", good, 0), ("sum", 0, good), ("sum", good, [TRIVIAL]),
-            ("sum", (good, good)), ["sum", good, good], ("less", good), ("less", good, None), ("less", good, good, good),
-            ("product", good), ("product", good, ("x",)), ("product", ("x",), good), ("product", good, good, good),
-            ("times", good), ("times", good, 2), ("times", 2), ("times", -1, good), ("times", 101, good),
-            ("times", True, good), ("times", False, good), ("times", "2", good), ("times", None, good),
-            ("times", 2, good, good), ("times", 2, 3), ("times", HUGE, good), ("times", (2,), good),
-            ("dual",), ("dual", good, good), ("dual", "trivial"), ("dual", DEEP), ("symmetric square",), ("sym", good),
-            ("symmetric square", good, good), ("symmetric square", None), ("exterior square",), ("ext", good),
-            ("exterior square", good, good), ("exterior square", 2), ("square", good), ("named", "a"), ("named", good),
-            ("sum", good, ("named", "a")), (None,), (0, good), ((), ()), ({},), ([],), (("dual",), good),
-        ]
+        wrong = [*ANY, 0, 7, (), ("x",), ("trivial", 1), ("adjoint", ()), ["trivial"], ("Trivial",), ("trivial ",),
+                 (TRIVIAL,), "trivial", (b"trivial",), ("irreducible",), ("irreducible", 1), ("irreducible", ()),
+                 ("irreducible", (1,)), ("irreducible", (1, 0, 0)), ("irreducible", [1, 0]), ("irreducible", (True, 0)),
+                 ("irreducible", (1, -1)), ("irreducible", (1, None)), ("irreducible", (1, 0), 1),
+                 ("irreducible", 1, 0), ("irreducible", "10"), ("sum", good), ("sum", good, good, good),
+                 ("sum", good, 0), ("sum", 0, good), ("sum", good, [TRIVIAL]), ("sum", (good, good)),
+                 ["sum", good, good], ("less", good), ("less", good, None), ("less", good, good, good),
+                 ("product", good), ("product", good, ("x",)), ("product", ("x",), good), ("product", good, good, good),
+                 ("times", good), ("times", good, 2), ("times", 2), ("times", -1, good), ("times", 101, good),
+                 ("times", True, good), ("times", False, good), ("times", "2", good), ("times", None, good),
+                 ("times", 2, good, good), ("times", 2, 3), ("times", HUGE, good), ("times", (2,), good), ("dual",),
+                 ("dual", good, good), ("dual", "trivial"), ("dual", DEEP), ("symmetric square",), ("sym", good),
+                 ("symmetric square", good, good), ("symmetric square", None), ("exterior square",), ("ext", good),
+                 ("exterior square", good, good), ("exterior square", 2), ("square", good), ("named", "a"),
+                 ("named", good), ("sum", good, ("named", "a")), (None,), (0, good), ((), ()), ({},), ([],),
+                 (("dual",), good),]
         for value in wrong:
             with self.subTest(value=value):
                 self.assertIs(is_expression(B_TWO, value), False)
@@ -155,12 +155,14 @@ class Sizes(unittest.TestCase):
                 (thousand, 1000), (("irreducible", (1000,)), 1001), (("sum", thousand, TRIVIAL), 1001),
                 (("sum", ("irreducible", (998,)), TRIVIAL), 1000), (("less", thousand, thousand), 2000),
                 (("less", ("irreducible", (499,)), ("irreducible", (499,))), 1000), (("times", 0, thousand), 1000),
-                (("times", 1, thousand), 1000), (("times", 2, thousand), 2000), (("times", 0, ("times", 9, thousand)), 9000),
-                (("times", 100, ("irreducible", (9,))), 1000), (("times", 100, ("irreducible", (10,))), 1100),
-                (("dual", thousand), 1000), (("product", thousand, TRIVIAL), 1000), (("product", thousand, ADJOINT), 3000),
+                (("times", 1, thousand), 1000), (("times", 2, thousand), 2000),
+                (("times", 0, ("times", 9, thousand)), 9000), (("times", 100, ("irreducible", (9,))), 1000),
+                (("times", 100, ("irreducible", (10,))), 1100), (("dual", thousand), 1000),
+                (("product", thousand, TRIVIAL), 1000), (("product", thousand, ADJOINT), 3000),
                 (("product", ("irreducible", (24,)), ("irreducible", (39,))), 1000),
                 (("product", ("irreducible", (24,)), ("irreducible", (40,))), 1025),
-                (("symmetric square", ("irreducible", (43,))), 990), (("symmetric square", ("irreducible", (44,))), 1035),
+                (("symmetric square", ("irreducible", (43,))), 990),
+                (("symmetric square", ("irreducible", (44,))), 1035),
                 (("exterior square", ("irreducible", (43,))), 990), (("exterior square", ("irreducible", (44,))), 1035),
                 (("product", ("times", 0, thousand), thousand), 10 ** 6), (("irreducible", (HUGE,)), HUGE + 1),
                 (("symmetric square", ("irreducible", (HUGE,))), (HUGE + 1) * (HUGE + 2) // 2)):
@@ -263,7 +265,8 @@ class Comparisons(unittest.TestCase):
                     self.assertIs(contains(matrix, tree, other), below)
                     self.assertEqual(homomorphisms(matrix, tree, other),
                                      sum(number * others.get(weight, 0) for weight, number in total.items()))
-                    if size_of(matrix, tree) + size_of(matrix, other) <= 1000 and trees.depth(tree) < 6 > trees.depth(other):
+                    if size_of(matrix,
+                               tree) + size_of(matrix, other) <= 1000 and trees.depth(tree) < 6 > trees.depth(other):
                         self.assertIs(contains(matrix, ("sum", tree, other), tree),
                                       is_representation(matrix, other))
                         self.assertIs(contains(matrix, tree, other), is_representation(matrix, ("less", tree, other)))
