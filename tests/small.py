@@ -147,6 +147,21 @@ def pairs(counts):
     return tuple(sorted((weight, count) for weight, count in dict(counts).items() if count))
 
 
+def sum_by_heads(matrix, counts, table_of):
+    """The sum of a table, the greatest dominant weights taken off with their tables one by one."""
+    found, d = {}, symmetrizer(matrix)
+    while counts:
+        # the one of the greatest form with rho is below no other one
+        head = max([weight for weight in counts if min(weight) >= 0], key=lambda weight: _level(matrix, d, weight))
+        found[head] = counts[head]
+        counts = plus((1, counts), (-counts[head], table_of(matrix, head)))
+    return pairs(found)
+
+
+def _level(matrix, d, weight):
+    return sum(dot([b * e for b, e in zip(root, d)], weight) for root in positive_roots(matrix))
+
+
 # paths
 
 

@@ -23,21 +23,6 @@ ALL = (size_of, character, decomposition, dimension_of, is_representation, are_i
 WITH_OTHER = (are_isomorphic, contains, homomorphisms)
 
 
-def total_of(matrix, tree):
-    """The coefficients, the greatest dominant weights taken off with their tables one by one."""
-    counts, found = trees.character(matrix, tree), {}
-    d = small.symmetrizer(matrix)
-    while counts:
-        head = max([weight for weight in counts if min(weight) >= 0], key=lambda weight: level(matrix, d, weight))
-        found[head] = counts[head]
-        counts = small.plus((1, counts), (-counts[head], table_of(matrix, head)))
-    return small.pairs(found)
-
-
-def level(matrix, d, weight):
-    return sum(small.dot([b * e for b, e in zip(root, d)], weight) for root in small.positive_roots(matrix))
-
-
 class Examples(unittest.TestCase):
     def test_of_the_document(self):
         self.assertEqual(
@@ -210,7 +195,7 @@ class Characters(unittest.TestCase):
         for matrix in SOME:
             for tree in trees.some(matrix):
                 total = decomposition(matrix, tree)
-                self.assertEqual(total, total_of(matrix, tree))
+                self.assertEqual(total, small.sum_by_heads(matrix, trees.character(matrix, tree), table_of))
                 again = small.plus(*[(number, table_of(matrix, weight)) for weight, number in total])
                 self.assertEqual(again, trees.character(matrix, tree))
                 self.assertEqual(total, sum_of(matrix, character(matrix, tree)))

@@ -39,22 +39,6 @@ def scaled(counts, k):
     return {tuple(k * number for number in weight): count for weight, count in counts.items()}
 
 
-def sum_by_heads(matrix, counts):
-    """The sum of a table, the greatest dominant weights taken off with their tables one by one."""
-    found = {}
-    while counts:
-        d = small.symmetrizer(matrix)
-        # the one of the greatest form with rho is below no other one
-        head = max([weight for weight in counts if min(weight) >= 0], key=lambda weight: level(matrix, d, weight))
-        found[head] = counts[head]
-        counts = small.plus((1, counts), (-counts[head], table_of(matrix, head)))
-    return small.pairs(found)
-
-
-def level(matrix, d, weight):
-    return sum(small.dot([b * e for b, e in zip(root, d)], weight) for root in small.positive_roots(matrix))
-
-
 def power_by_choices(counts, many, choose):
     """The table of a power of a representation, by taking weights."""
     weights = [weight for weight, count in sorted(counts.items()) for _ in range(count)]
@@ -104,8 +88,8 @@ class Product(unittest.TestCase):
             for weight in weights[:6]:
                 for other in weights[:6]:
                     made = product(matrix, ((weight, 1),), ((other, 1),))
-                    self.assertEqual(made, sum_by_heads(
-                        matrix, small.times(table_of(matrix, weight), table_of(matrix, other))))
+                    counts = small.times(table_of(matrix, weight), table_of(matrix, other))
+                    self.assertEqual(made, small.sum_by_heads(matrix, counts, table_of))
 
     def test_tables_and_sums_lead_to_one(self):
         for matrix in small.SOME:
