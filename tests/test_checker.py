@@ -364,6 +364,18 @@ class Expressions(Claims):
                           (((0,), zero_table), ((1,), table_of(A_ONE, (1,))))):
                 self.assertIs(accepts(("same", A_ONE, tree, tree), other), other == paper)
 
+    def test_true_is_not_1(self):
+        two, zero = ("irreducible", (1,)), ("irreducible", (0,))
+        table = table_of(A_ONE, (1,))
+        for tree, paper, wrong in ((two, (((1,), table),), [(((True,), table),), (((1,), (((-1,), True), ((1,), 1))),),
+                                                            (((1,), (((-1,), 1), ((True,), 1))),)]),
+                                   (zero, (((0,), (((0,), 1),)),),
+                                    [(((False,), (((0,), 1),)),), (((0,), (((0,), True),)),)])):
+            self.all_accepted(True,
+                              [(("same", A_ONE, tree, tree), paper), (("contains", A_ONE, tree, tree[1], 1), paper)])
+            self.no_claims([("same", A_ONE, tree, tree), ("contains", A_ONE, tree, tree[1], 1)], wrong)
+            self.no_claims([("contains", A_ONE, tree, tree[1], True)], [paper])
+
     def test_wrong_expressions(self):
         for wrong in (*ANY, (), ("x",), ("irreducible", (1,)), ("times", 101, TRIVIAL), ("named", "a"), trees.nested(7),
                       ["trivial"], ("times", 11, ("times", 100, TRIVIAL)),
@@ -394,6 +406,13 @@ class Finite(Claims):
                 self.assertIs(accepts(("finite", matrix), vector), min(vector) > 0 and min(sums) > 0)
                 self.assertIs(accepts(("not finite", matrix), vector),
                               min(vector) >= 0 and any(vector) and max(sums) <= 0)
+
+    def test_vectors_below_0(self):
+        # the wild one leads this vector above 0, too
+        self.assertEqual(self.shown(WILD, (-5, -4)), [2, 2])
+        self.no_claims([("finite", WILD), ("not finite", WILD)], [(-5, -4)])
+        self.assertEqual(self.shown(A_TWO, (-1, -1)), [-1, -1])
+        self.no_claims([("finite", A_TWO), ("not finite", A_TWO)], [(-1, -1), (-1, 0), (0, -1)])
 
     def test_no_matrix_has_both(self):
         for matrix in matrices.small_matrices(2, 5):

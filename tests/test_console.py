@@ -101,12 +101,12 @@ class Commands(Desk):
             ("let v = 0 a", "7 entries"), ("let v = v", "7 entries"), ("forget abcdefghijk9", "6 entries"),
             ("let a = trivial - 2 a", "6 entries"), ("decompose a", "V(0) - 4 V(1)"), ("decompose v", "0"),
             ("decompose v + v", "0"))
-        for line in ("let", "let ", "let  ", "let a", "let a V(1)", "let a V(1) ;", "let V = V(1)", "let A = V(1)",
-                     "let let = V(1)", "let dual = V(1)", "let trivial = V(1)", "let ext = V(1)", "let 1 = V(1)",
-                     "let 1a = V(1)", "let = V(1)", "let  =", "let =", "let abcdefghijklm = V(1)", "let a b = V(1)",
-                     "let a_b = V(1)", "let #a = V(1)", "let a# = V(1)", "let a\n = V(1)", "let\na = V(1)",
-                     "let\ta = V(1)", "leta = V(1)", "let=V(1)", "let a(1) = V(1)", "Let a = V(1)", "let \u00e4 = V(1)",
-                     "let V = $", "let 1 = 2 V(999)"):
+        for line in ("let", "let ", "let  ", "let a", "let ab", "let a V(1)", "let a V(1) ;", "let V = V(1)",
+                     "let A = V(1)", "let let = V(1)", "let dual = V(1)", "let trivial = V(1)", "let ext = V(1)",
+                     "let 1 = V(1)", "let 1a = V(1)", "let = V(1)", "let  =", "let =", "let abcdefghijklm = V(1)",
+                     "let a b = V(1)", "let a_b = V(1)", "let #a = V(1)", "let a# = V(1)", "let a\n = V(1)",
+                     "let\na = V(1)", "let\ta = V(1)", "leta = V(1)", "let=V(1)", "let a(1) = V(1)", "Let a = V(1)",
+                     "let \u00e4 = V(1)", "let V = $", "let 1 = 2 V(999)"):
             self.answers(("let v = V(2)", "1 entries"), (line, "?"), ("show", "v = V(2)"))
         self.alone("A1", ("let a = ", "BadText 8"), ("let a =", "BadText 7"), ("let a=", "BadText 6"),
                    ("let a = b", "BadText 8"), ("let a = a", "BadText 8"), ("let a == V(1)", "BadText 7"),
@@ -134,6 +134,10 @@ class Commands(Desk):
                      "forget trivial", "forget v #", "forget #v", "forget v,w", "forget abcdefghijklm", "forget V(1)",
                      "forget =", "forget v =", "forget v\n", "forgetv", "Forget v", "forget\tv"):
             self.alone("A1", (line, "?"))
+
+    def test_forget_names_whole(self):
+        self.answers(("let xax = V(1)", "1 entries"), ("let a = V(2)", "2 entries"), ("forget xa", "does not fit"),
+                     ("forget ax", "does not fit"), ("forget xax", "1 entries"), ("show", "a = V(2)"))
 
     def test_restrict(self):
         self.alone("A2", ("restrict 0", "1 entries"), ("restrict 1", "1 entries"), ("restrict 0 1", "1 entries"),
@@ -206,12 +210,12 @@ class Commands(Desk):
                    ("same V(1, 0) = dual V(0, 1)", "yes"))
 
     def test_what_is_not_understood(self):
-        for line in ("what", "dimension", "dimension ", "dimension   ", "  decompose", "is", "is  ", "invariants",
-                     "letters ", "same", "same  ", "contains", "homs", "same v", "same v v", "same v, v", "contains v",
-                     "homs v", "same v = v = v", "homs v == v", "contains = = =", "v", "V(1)", "trivial", "Dimension v",
-                     "dimensionv", "dimension=v", "same=v", "samev = v", "dim v", "decompose: v", "#", "# show", "= v",
-                     "let", "?", "show = v", "dimension\nv", "dimension\tv", "same v # = v = v", "?  ", "BadText",
-                     "same v # v"):
+        for line in ("what", "xshow", "x show", "showx", "dimension", "dimension ", "dimension   ", "  decompose", "is",
+                     "is  ", "invariants", "letters ", "same", "same  ", "contains", "homs", "same v", "same v v",
+                     "same v, v", "contains v", "homs v", "same v = v = v", "homs v == v", "contains = = =", "v",
+                     "V(1)", "trivial", "Dimension v", "dimensionv", "dimension=v", "same=v", "samev = v", "dim v",
+                     "decompose: v", "#", "# show", "= v", "let", "?", "show = v", "dimension\nv", "dimension\tv",
+                     "same v # = v = v", "?  ", "BadText", "same v # v"):
             self.alone("A2", (line, "?"))
 
     def test_places_in_the_whole_line(self):

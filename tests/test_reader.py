@@ -144,6 +144,16 @@ class Expressions(Reading):
                          ("[" * 11 + "V(1) + dual dual V(1)" + "]" * 11, 23), ("[" * 12 + "V(1) + [", 19),
                          ("dual [" * 6 + "dual", 36), ("2 [" * 6 + "1 V(1)", 18)])
 
+    def test_what_is_closed_is_open_no_more(self):
+        for closed in ("[V(1)]", "dual V(1)", "sym V(1)", "2 V(1)", "[2 [dual V(1)]]"):
+            for sign in (" + ", " * ", " - "):
+                text = (closed + sign) * 3
+                at = len(text)
+                self.bad(A_ONE, [(text + "[" * 13, at + 12), (text + "[" * 11 + "dual 2", at + 16),
+                                 (text + "[" * 12 + "V(1)" + "]" * 13, at + 28), (text + "[" * 12, at + 12)])
+                if "[" not in closed:
+                    self.bad(A_ONE, [("[" * 11 + text + "[[", at + 12), ("[" * 11 + text + "2 dual", at + 13)])
+
     def test_deeper_than_6(self):
         six = "dual dual dual dual dual V(1)"
         self.expressions(A_ONE, [(six, nested(6, TWO)), ("V(1)" + " + V(1)" * 5, _row("sum", 6)),

@@ -1,6 +1,6 @@
 """Claims with papers that the checker accepts."""
 
-from weylweights.cartan import FINITE, check_matrix, is_finite, kinds_of, parts_of, shown_by
+from weylweights.cartan import FINITE, is_finite, kinds_of, parts_of, shown_by
 from weylweights.characters import counts_of
 from weylweights.checker import weights_in
 from weylweights.expressions import check_expression, coefficient_at, counts_of_tree, sum_of_tree
@@ -70,7 +70,6 @@ def certify_contains(matrix, expression, weight):
 
 def certify_finite(matrix):
     """That there are finitely many roots, or that there are not."""
-    check_matrix(matrix)
     shown = shown_by(matrix)
     if is_finite(matrix):
         return ("finite", matrix), shown

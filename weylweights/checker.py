@@ -80,9 +80,7 @@ def _is_right(matrix, weight, value):
 
 def _shows_irreducible(claim, paper):
     _, matrix, weight, table = claim
-    if not _is_highest(matrix, weight) or not _is_table(matrix, table):
-        return False
-    return _is_nothing(paper) and _is_right(matrix, weight, table)
+    return _is_highest(matrix, weight) and _is_right(matrix, weight, table) and _is_nothing(paper)
 
 
 def _shows_character(claim, paper):

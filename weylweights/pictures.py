@@ -115,9 +115,9 @@ def _pair_of_line(axes, line):
     if not all([is_row_of_figures(text.removeprefix("-")) for text in texts]):
         return None
     x, y, count = [int(text) for text in texts]
-    weight = _weight_at(axes, x, -y)
-    # numbers may be written in other ways, but not in pictures
-    if weight is None or count == 0 or _line_of(axes, weight, count) != line:
+    weight = _weight_near(axes, x, -y)
+    # the place may be no spot, and the numbers may be written in another way
+    if count == 0 or _line_of(axes, weight, count) != line:
         return None
     return weight, count
 
@@ -129,12 +129,8 @@ def _number_texts(line):
     return [x, y, count]
 
 
-def _weight_at(axes, x, y):
-    """The weight whose spot this is; None."""
+def _weight_near(axes, x, y):
+    """The weight whose spot this is; some weight, if it is no spot."""
     (a, b), (c, d) = axes
     determinant = a * d - b * c
-    first = x * d - y * c
-    second = a * y - b * x
-    if first % determinant != 0 or second % determinant != 0:
-        return None
-    return first // determinant, second // determinant
+    return (x * d - y * c) // determinant, (a * y - b * x) // determinant

@@ -4,7 +4,7 @@ from weylweights.expressions import check_expression
 from weylweights.tables import check_sum
 from weylweights.weights import check_small
 
-SIGNS = {"sum": "+", "less": "-", "product": "*"}
+SIGNS = {"sum": "+", "less": "-"}
 PREFIXES = {"dual": "dual", "symmetric square": "sym", "exterior square": "ext"}
 SUMS = ("sum", "less")
 WITH_SIGNS = ("sum", "less", "product")
